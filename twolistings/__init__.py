@@ -1,0 +1,1 @@
+"""Twolistings: archives that say each entry twice."""
