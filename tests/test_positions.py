@@ -4,110 +4,14 @@ import itertools
 import random
 import unittest
 
-from samples import (FILE, KNOWN, NO_PLANS, NO_QUESTIONS, NO_RULES, VALUES, by_first_place, line_of, names_in, raised,
-                     random_records, random_rule, state_after, state_behind)
+from plays import (PLANS, QUESTIONS, ROLES, THREE_MODES, all_positions, due, is_position_by_words, position_by_words,
+                   record_by_words, sayings_by_words, some_rules, step_by_words)
+from samples import (FILE, NO_PLANS, NO_QUESTIONS, NO_RULES, VALUES, line_of, names_in, raised, random_records,
+                     state_behind)
 from twolistings.archives import Archive
 from twolistings.errors import BadSaying, Parted
 from twolistings.positions import demanded, is_position, position_of, sayings, start, step, stopped
 from twolistings.rules import Rule
-
-ROLES = ["put", "strike", "other", "mend"]
-QUESTIONS = ["same", "done", "sure"]
-SAYINGS = ["absent", "struck", "shown", "newest"]
-PLANS = ["E", "EL", "LE", "ELL", "LEL", "LLE", "ELLL", "LELL", "LLEL", "LLLE"]
-THREE_MODES = random_rule(random.Random(1), 3)
-
-
-def position_by_words(role, done, shown, newest, readers):
-    """The position with these entries, whatever they are."""
-    numbers = by_first_place([shown, newest, *[kept for _, kept in readers]])
-    modes = [mode for mode, _ in readers]
-    return role, done, numbers[0], numbers[1], tuple(zip(modes, numbers[2:]))
-
-
-def step_by_words(rules, plan, question, position, saying):
-    """The position after the next step, None if the step is bad, by the words of points 13 and 14."""
-    role, done, before, newest, readers = position
-    signs = list("L" if role == "mend" else plan)
-    written = "E" in signs[:done + 1] and role != "mend"
-    last = done == len(signs) - 1
-    if signs[done] == "E":
-        event, entry = {"put": ("head", 99), "strike": ("strike", 0), "other": ("other", 0)}[role]
-        newest = 99 if role == "put" else newest
-    else:
-        event, entry = {"absent": ("absent", 0), "struck": ("struck", 0), "shown": ("named", before),
-                        "newest": ("named", newest)}[saying]
-    states = [state_after(rule, (mode, before, kept), event, entry) for rule, (mode, kept) in zip(rules, readers)]
-    all_shown = {shown for _, shown, _ in states}
-    if len(all_shown) > 1:
-        return None
-    shown = all_shown.pop()
-    if question in ("done", "sure"):
-        if last and role == "put" and shown != newest:
-            return None
-        if last and role == "strike" and shown != 0:
-            return None
-    if question == "sure":
-        right = {before}
-        if role == "put" and written:
-            right.add(newest)
-        if role == "strike":
-            right.add(0)
-        if shown not in right:
-            return None
-    after = [(mode, kept) for mode, _, kept in states]
-    return position_by_words("rest" if last else role, 0 if last else done + 1, shown, newest, after)
-
-
-def sayings_by_words(position):
-    shown, newest = position[2:4]
-    allowed = {"absent": True, "struck": newest > 0, "shown": shown > 0, "newest": newest > 0}
-    return tuple(word for word in SAYINGS if allowed[word])
-
-
-def due(plan, position):
-    """The sayings that go with the next step of an edit."""
-    sign = "L" if position[0] == "mend" else plan[position[1]]
-    return [None] if sign == "E" else sayings_by_words(position)
-
-
-def is_position_by_words(rules, plan, value):
-    """Whether a tuple of the right kinds has the form of a position, by the words of point 12."""
-    role, done, shown, newest, readers = value
-    steps = {"rest": 1, "mend": 1}.get(role, len(plan))
-    entries = [shown, newest, *[kept for _, kept in readers]]
-    return (role in ["rest", *ROLES] and 0 <= done < steps and by_first_place(entries) == entries
-            and (newest > 0 or set(entries) == {0})
-            and all(0 <= mode < len(rule) for rule, (mode, _) in zip(rules, readers))
-            and not (role == "put" and "E" in plan[:done] and newest == 0))
-
-
-def all_positions(rules, plan):
-    """Each value that has the form of a position."""
-    modes = list(itertools.product(*[range(len(rule)) for rule in rules]))
-    for entries in itertools.product(range(len(rules) + 3), repeat=len(rules) + 2):
-        if by_first_place(entries) == list(entries) and (entries[1] > 0 or set(entries) == {0}):
-            for role, done, chosen in itertools.product(["rest", *ROLES], range(len(plan)), modes):
-                position = (role, done, *entries[:2], tuple(zip(chosen, entries[2:])))
-                if is_position_by_words(rules, plan, position):
-                    yield position
-
-
-def some_rules(seed, count):
-    """Lists of one to three rules, as point 29 bounds them."""
-    rng = random.Random(seed)
-    known = list(KNOWN.values())
-    yield from [[rule] for rule in known]
-    for number in range(count):
-        ones = [rule for rule in known if len(rule) == 1] + [random_rule(rng, 1) for _ in range(3)]
-        yield [
-            [rng.choice(known), rng.choice(known)],
-            rng.sample(ones, 3),
-            [random_rule(rng, 2), rng.choice(known)],
-            [random_rule(rng, 3)],
-            [random_rule(rng, 2), random_rule(rng, 2)],
-        ][number % 5]
-
 
 class Start(unittest.TestCase):
     def test_the_start(self):
@@ -494,7 +398,7 @@ class Steps(unittest.TestCase):
                 place = demanded(place, rng.choice(ROLES))
                 while place is not None and place[0] != "rest":
                     saying = rng.choice(due(plan, place))
-                    records.append(self.record(records, rules, place, saying))
+                    records.append(record_by_words(records, rules, place, saying))
                     place = step(rules, plan, "same", place, saying)
                     if place is not None:
                         self.assertEqual(position_of(rules, Archive(records), "a"), ("rest", 0, *place[2:]))
@@ -502,16 +406,6 @@ class Steps(unittest.TestCase):
                             place = stopped(place)
             if place is None:
                 self.assertEqual(raised(position_of, rules, Archive(records), "a"), ("Parted", {"name": "a"}))
-
-    def record(self, records, rules, place, saying):
-        """The record that a step writes in an archive, for the name "a"."""
-        if saying is None:
-            return {"put": ("head", "a", FILE), "strike": ("strike", "a"), "other": ("head", "b", FILE)}[place[0]]
-        line = line_of(records, "a")
-        entries = {"shown": state_behind(rules[0], line)[1], "newest": max(Archive(records).heads_of("a"), default=0)}
-        if saying in entries:
-            return ("list", (("a", len(records) + 1 - entries[saying]),))
-        return ("list", (("a", 0),) if saying == "struck" else ())
 
 
 class WrongSteps(unittest.TestCase):
