@@ -3,7 +3,7 @@
 import itertools
 import random
 
-from samples import FILE, KNOWN, by_first_place, line_of, random_rule, state_after, state_behind
+from samples import FILE, KNOWN, by_first_place, line_of, names_in, random_rule, state_after, state_behind
 
 ROLES = ["put", "strike", "other", "mend"]
 QUESTIONS = ["same", "done", "sure"]
@@ -235,3 +235,43 @@ def record_by_words(records, rules, place, saying):
     if saying in entries:
         return ("list", (("a", len(records) + 1 - entries[saying]),))
     return ("list", (("a", 0),) if saying == "struck" else ())
+
+
+def place_by_lines(rules, records, name, role="rest", done=0):
+    """The position of a name behind records, None if the readers do not show the same for it."""
+    line = line_of(records, name)
+    states = [state_behind(rule, line) for rule in rules]
+    if len({shown for _, shown, _ in states}) > 1:
+        return None
+    newest = max([entry for event, entry in line if event == "head"], default=0)
+    return position_by_words(role, done, states[0][1], newest, [(mode, kept) for mode, _, kept in states])
+
+
+def stray_by_words(rules, rests, records):
+    """Why point 23 does not let records stand at their last one: the least name, "", or None if it lets them."""
+    for name in [*names_in(records), "no/such name"]:
+        if place_by_lines(rules, records, name) not in rests:
+            return name if name != "no/such name" else ""
+    return None
+
+
+def list_by_words(rules, words, records, role, name, done):
+    """The list that a keeper writes behind records, in an edit of a name, by the words of points 17 and 23."""
+    items = []
+    for other in names_in(records):
+        mine = role if other == name or role == "mend" else "other"
+        saying = words[place_by_lines(rules, records, other, mine, done)][0]
+        line = line_of(records, other)
+        entries = {"shown": state_behind(rules[0], line)[1],
+                   "newest": max([entry for event, entry in line if event == "head"], default=0)}
+        if saying != "absent":
+            items.append((other, 0 if saying == "struck" else len(records) + 1 - entries[saying]))
+    return ("list", tuple(items))
+
+
+def edited_by_words(rules, plan, words, records, role, name, own, steps):
+    """The records behind an edit of which so many steps are done, own its own one; all steps if None."""
+    for done, sign in enumerate(("L" if role == "mend" else plan)[:steps]):
+        record = own if sign == "E" else list_by_words(rules, words, records, role, name, done)
+        records = [*records, record]
+    return records
