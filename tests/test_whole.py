@@ -39,7 +39,7 @@ def three_books(rules, plan, question):
 
 class KeepersBesideReaders(unittest.TestCase):
     def history(self, rng, keeper, plan, size):
-        """Edits of a keeper: a list of (first, last, role, name, whole), with the numbers of records before and after."""
+        """Edits of a keeper: a list of (first, last, role, name, whole); so many records stood ahead and behind."""
         edits = []
         for _ in range(size):
             role, name = rng.choice(["put", "put", "strike", "mend"]), rng.choice(NAMES)

@@ -45,7 +45,7 @@ class Company:
         """The list of (tail, members) of the groups; members is a dict from each name to its entries."""
         return [(tail, members) for tail, members in self._groups.items() if members]
 
-    def at(self, name):
+    def state_of(self, name):
         """The tail and the entries of a name."""
         for tail, members in self._groups.items():
             if name in members:
@@ -84,7 +84,7 @@ class Company:
 
     def _taken(self, name):
         """The tail and the entries of a name, which leaves its group."""
-        tail, entries = self.at(name)
+        tail, entries = self.state_of(name)
         if tail in self._groups:
             self._groups[tail].pop(name, None)
         return tail, entries

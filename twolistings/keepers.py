@@ -9,6 +9,16 @@ from twolistings.forms import is_between
 from twolistings.trees import FOLDER, first_unclean, has_folder, parent
 
 
+def _check_name(name):
+    if not is_name(name):
+        raise BadName()
+
+
+def _check_thing(thing):
+    if not is_thing(thing):
+        raise BadThing()
+
+
 def _back(word, tail, entries, number):
     """What the list with this number says of a name: the distance to the entry of a saying, 0 if it is struck."""
     if word == "struck":
@@ -55,12 +65,15 @@ class Keeper:
 
     def put(self, name, thing, *, steps=None):
         """Puts a thing under a name; steps tells after how many steps the edit is stopped."""
-        self._check_put(name, thing, steps)
+        _check_name(name)
+        _check_thing(thing)
+        self._check_steps(steps)
         self._edit("put", name, ("head", name, thing), steps)
 
     def strike(self, name, *, steps=None):
         """Strikes a name; steps tells after how many steps the edit is stopped."""
-        self._check_strike(name, steps)
+        _check_name(name)
+        self._check_steps(steps)
         self._edit("strike", name, ("strike", name), steps)
 
     def mend(self):
@@ -91,9 +104,8 @@ class Keeper:
 
     def position(self, name):
         """The position of a name at rest."""
-        if not is_name(name):
-            raise BadName()
-        tail, _ = self._company.at(name)
+        _check_name(name)
+        tail, _ = self._company.state_of(name)
         return ("rest", 0, *numbers_of(tail))
 
     def copy(self):
@@ -108,18 +120,9 @@ class Keeper:
         self._company = company
         self._whole = None
 
-    def _check_strike(self, name, steps):
-        if not is_name(name):
-            raise BadName()
+    def _check_steps(self, steps):
         if steps is not None and not is_between(steps, 1, len(self._plan)):
             raise BadSteps()
-
-    def _check_put(self, name, thing, steps):
-        if not is_name(name):
-            raise BadName()
-        if not is_thing(thing):
-            raise BadThing()
-        self._check_strike(name, steps)
 
     def _edit(self, role, name, own, steps):
         """Writes the records of an edit: its own one at "E", a list at "L"; all of them if steps is None."""
@@ -129,18 +132,23 @@ class Keeper:
             self._company.hear(record, len(self._records))
         self._whole = None
 
+    def _word(self, role, done, tail):
+        """What is said of a name with this tail, in an edit of which so many steps are done."""
+        position = (role, done, *numbers_of(tail))
+        # A position without a row is that of another name in a group in which the edited one is alone.
+        return self._words.get(position, "absent")
+
     def _items(self, role, name, done):
         """The items of the next list, in an edit of a name of which so many steps are done."""
         number = len(self._records) + 1
         items = []
         for tail, members in self._company.groups():
-            # In a group without other names, there may be no row, and nothing is said of them.
-            word = self._words.get((role if role == "mend" else "other", done, *numbers_of(tail)), "absent")
+            word = self._word("mend" if role == "mend" else "other", done, tail)
             told = [other for other in members if other != name and word != "absent"]
             items.extend([(other, _back(word, tail, members[other], number)) for other in told])
         if role != "mend":
-            tail, entries = self._company.at(name)
-            word = self._words[(role, done, *numbers_of(tail))]
+            tail, entries = self._company.state_of(name)
+            word = self._word(role, done, tail)
             if word != "absent":
                 items.append((name, _back(word, tail, entries, number)))
         return tuple(sorted(items))
@@ -171,7 +179,9 @@ class GuardedKeeper(Keeper):
 
     def put(self, name, thing, *, steps=None):
         """Puts a thing under a name whose parent is a folder; no names may be below it if the thing is none."""
-        self._check_put(name, thing, steps)
+        _check_name(name)
+        _check_thing(thing)
+        self._check_steps(steps)
         tree = self.tree()
         if not has_folder(tree, name):
             raise Barred(parent(name))
@@ -182,7 +192,8 @@ class GuardedKeeper(Keeper):
 
     def strike(self, name, *, steps=None):
         """Strikes a name below which none is shown."""
-        self._check_strike(name, steps)
+        _check_name(name)
+        self._check_steps(steps)
         below = _first_below(self.table(), name)
         if below is not None:
             raise Barred(below)
@@ -209,7 +220,7 @@ class GuardedKeeper(Keeper):
             changed = company.hear(record, number)
             folders = [name for name in changed if tree.get(name) == FOLDER]
             for name in changed:
-                tail, entries = company.at(name)
+                tail, entries = company.state_of(name)
                 if tail[0] > 0:
                     tree[name] = records[entries[tail[0]] - 1][2]
                 else:
